@@ -61,15 +61,15 @@ func (m *Machine) request(l ...api.Pulse) {
 	}
 }
 
-// serve serves the next counter request. The request leaves the queue even if the counter's parity is wrong: otherwise the machine would restart in each cycle from then on, and no program could repair the counter.
+// serve serves the next counter request. If the counter's parity is wrong, the request stays in the queue: a restart loses no pulse.
 func (m *Machine) serve() api.Status {
 	next, _ := counter.Next(m.queue)
 	p := m.queue[next]
-	queue, cell, signal, _ := counter.Serve(m.queue, m.erasable.words)
-	m.queue = queue
 	if !m.erasable.isRight(p.At) {
 		return m.restart(api.CauseParity)
 	}
+	queue, cell, signal, _ := counter.Serve(m.queue, m.erasable.words)
+	m.queue = queue
 	m.erasable.write(cell)
 	pulses, rupt := counter.After(p.At, p.Kind, signal)
 	m.request(pulses...)

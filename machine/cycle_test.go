@@ -177,24 +177,75 @@ func TestAfter(t *testing.T) {
 	}
 }
 
-// TestSpoiltCounter tests P8.2: a spoilt word that is a counter's cell. The request leaves the queue with the restart, and causes nothing.
+// TestSpoiltCounter tests P8.2 and P8.8: a spoilt word that is a counter's cell. The request stays in the queue, and causes nothing but a restart in each cycle until the word is right again, by Poke or by Spoil.
 func TestSpoiltCounter(t *testing.T) {
 	for bit := range 16 {
-		m := build(t, 4096, loop(2048, 1000))
-		run(t, m, 4)
-		poke(t, m, 22, 16383)
-		spoil(t, m, api.SpaceErasable, 22, bit)
-		request(t, m, plus(30, 22, 31, 22)...)
-		words := m.Words()
-		cycles(t, m, restarted(api.CauseParity))
-		checkList(t, m.Waiting(), plus(30, 31, 22), "Waiting after a restart")
-		checkBad(t, m, 22)
-		checkList(t, m.Words(), words, "Words after a restart")
-		check(t, m.Regs(), api.Regs{Z: 2048}, "Regs after a restart")
-		checkCounts(t, m, [3]int{5, 2, 1})
-		poke(t, m, 22, 16383)
-		cycles(t, m, pulsed(22), pulsed(30), pulsed(31), fetch(), fetch(), entered(3))
+		for _, repair := range []func(m *Machine){
+			func(m *Machine) { poke(t, m, 22, 16383) },
+			func(m *Machine) { spoil(t, m, api.SpaceErasable, 22, bit) },
+		} {
+			m := build(t, 4096, loop(2048, 1000))
+			run(t, m, 4)
+			poke(t, m, 22, 16383)
+			spoil(t, m, api.SpaceErasable, 22, bit)
+			request(t, m, plus(30, 22, 31, 22)...)
+			words := m.Words()
+			for i := range 3 {
+				cycles(t, m, restarted(api.CauseParity))
+				checkList(t, m.Waiting(), plus(30, 22, 31, 22), "Waiting after a restart")
+				checkBad(t, m, 22)
+				checkList(t, m.Words(), words, "Words after a restart")
+				check(t, m.Regs(), api.Regs{Z: 2048}, "Regs after a restart")
+				checkCounts(t, m, [3]int{5 + i, 2, 1 + i})
+			}
+			repair(m)
+			cycles(t, m, pulsed(22), pulsed(22), pulsed(30), pulsed(31), fetch(), fetch(), entered(3))
+			checkPeek(t, m, 22, 1)
+			checkPeek(t, m, 30, 1)
+			checkPeek(t, m, 31, 1)
+		}
 	}
+}
+
+// TestSpoiltOrder tests P8.2: the requests of lesser counters are served before a spoilt one, also those that come later, in their order; and a restart by hand leaves the queue.
+func TestSpoiltOrder(t *testing.T) {
+	m := build(t, 4096, loop(2048, 1000))
+	spoil(t, m, api.SpaceErasable, 30, 15)
+	minus := api.Pulse{At: 30, Kind: api.PulseMinus}
+	double := api.Pulse{At: 30, Kind: api.PulseShift0}
+	request(t, m, plus(40, 30)...)
+	request(t, m, double)
+	cycles(t, m, restarted(api.CauseParity))
+	request(t, m, plus(26)...)
+	cycles(t, m, pulsed(26), restarted(api.CauseParity))
+	request(t, m, minus)
+	ok(t, m.Restart())
+	cycles(t, m, restarted(api.CauseParity))
+	checkList(t, m.Waiting(), append(plus(40, 30), double, minus), "Waiting")
+	poke(t, m, 30, 100)
+	cycles(t, m, pulsed(30), pulsed(30), pulsed(30), pulsed(40), fetch(), done("CA"))
+	checkPeek(t, m, 30, 201)
+	checkCounts(t, m, [3]int{10, 1, 4})
+}
+
+// TestSpoiltFull tests P8.2 and P8.8: while a spoilt counter keeps the queue full, the pulses of the ticks are lost, and no others.
+func TestSpoiltFull(t *testing.T) {
+	m := build(t, 16, loop(2048, 1000))
+	spoil(t, m, api.SpaceErasable, 21, 0)
+	for range 64 {
+		request(t, m, plus(21)...)
+	}
+	for range 40 {
+		cycles(t, m, restarted(api.CauseParity))
+	}
+	check(t, m.Pulse(plus(22)[0]), api.ErrFull, "Pulse")
+	checkList(t, m.Waiting(), plus(slices.Repeat([]int{21}, 64)...), "Waiting")
+	poke(t, m, 21, 0)
+	for range 7 {
+		cycles(t, m, pulsed(21))
+	}
+	checkPeek(t, m, 21, 7)
+	check(t, len(m.Waiting()), 57, "length of Waiting")
 }
 
 // TestSpoiltElsewhere tests P8.2: requests of other counters do not read a spoilt word, and a request is served before an instruction of wrong parity is read.

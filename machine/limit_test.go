@@ -243,6 +243,8 @@ func TestTrapRestart(t *testing.T) {
 	request(t, m, plus(40)...)
 	spoil(t, m, api.SpaceErasable, 40, 0)
 	cycles(t, m, restarted(api.CauseParity))
+	spoil(t, m, api.SpaceErasable, 40, 0)
+	cycles(t, m, pulsed(40))
 	run(t, m, 63)
 	spoil(t, m, api.SpaceFixed, 2111, 0)
 	cycles(t, m, restarted(api.CauseParity))

@@ -128,10 +128,10 @@ func (x *model) serve() api.Status {
 		}
 	}
 	p := x.queue[first]
-	x.queue = slices.Delete(slices.Clone(x.queue), first, first+1)
 	if x.wrong[api.Spot{Space: api.SpaceErasable, At: p.At}] {
 		return x.restart(api.CauseParity)
 	}
+	x.queue = slices.Delete(slices.Clone(x.queue), first, first+1)
 	w, signal, _ := counter.Apply(x.erasable[p.At], p.Kind)
 	x.write(p.At, w)
 	l, n := counter.After(p.At, p.Kind, signal)
@@ -329,6 +329,25 @@ func (p pair) disturb(t *testing.T, g *rand.Rand) {
 	}
 }
 
+// repair makes the words of the counters right that have requests, in one way or another: until then, the machine restarts in each cycle.
+func (p pair) repair(t *testing.T, g *rand.Rand) {
+	t.Helper()
+	for _, q := range p.m.Waiting() {
+		s := api.Spot{Space: api.SpaceErasable, At: q.At}
+		if !p.x.wrong[s] {
+			continue
+		}
+		n := g.Intn(16)
+		if g.Intn(2) == 0 {
+			ok(t, p.m.Poke(q.At, api.Word(n)))
+			p.x.write(q.At, api.Word(n))
+		} else {
+			ok(t, p.m.Spoil(s, n))
+			p.x.spoil(s, n)
+		}
+	}
+}
+
 // follow runs both for n cycles, with a disturbance in one of so many.
 func (p pair) follow(t *testing.T, g *rand.Rand, n, rare int) {
 	t.Helper()
@@ -337,6 +356,9 @@ func (p pair) follow(t *testing.T, g *rand.Rand, n, rare int) {
 			p.disturb(t, g)
 		}
 		p.cycle(t)
+		if g.Intn(4) == 0 {
+			p.repair(t, g)
+		}
 		if i%16 == 0 {
 			p.compare(t)
 		}
@@ -359,7 +381,7 @@ func pickPair(t *testing.T, g *rand.Rand, kinds map[api.Status]int) pair {
 
 // TestModel tests P8.2 to P8.8: random programs with random disturbances, and copies that go other ways.
 func TestModel(t *testing.T) {
-	g := rand.New(rand.NewSource(8))
+	g := rand.New(rand.NewSource(13))
 	kinds := map[api.Status]int{}
 	for range 60 {
 		p := pickPair(t, g, kinds)
@@ -417,12 +439,12 @@ func TestSteps(t *testing.T) {
 	check(t, total > 2000, true, "whether there were enough steps", total)
 }
 
-// TestPulsesAreKept tests P8.8: whatever restarts happen, each pulse that the queue took is counted or waits.
+// TestPulsesAreKept tests P8.8: whatever restarts happen, also by counters of wrong parity, each pulse that the queue took is counted or waits.
 func TestPulsesAreKept(t *testing.T) {
 	g := rand.New(rand.NewSource(10))
 	m := build(t, 4096, place(2048, code("INCR", 60), code("TCF", 2048)), place(2068, code("INCR", 61), code("TCF", 2068)))
 	var taken [28]int
-	restarts := 0
+	byHand, byParity := 0, 0
 	for i := range 4000 {
 		if at := 26 + g.Intn(11); m.Pulse(api.Pulse{At: at, Kind: api.PulsePlus}) == api.OK {
 			taken[at-20]++
@@ -430,16 +452,26 @@ func TestPulsesAreKept(t *testing.T) {
 		switch g.Intn(30) {
 		case 0:
 			ok(t, m.Restart())
-			restarts++
+			byHand++
 		case 1:
 			ok(t, m.Interrupt(5))
 		}
-		m.Run(g.Intn(4))
+		s, bit := api.Spot{Space: api.SpaceErasable, At: 26 + g.Intn(11)}, g.Intn(16)
+		spoilt := g.Intn(10) == 0
+		if spoilt {
+			ok(t, m.Spoil(s, bit))
+		}
+		if _, last, _ := m.Run(g.Intn(4)); last == restarted(api.CauseParity) {
+			byParity++
+		}
+		if spoilt {
+			ok(t, m.Spoil(s, bit))
+		}
 		for at := 26; at < 37; at++ {
 			w, e := m.Peek(at)
 			ok(t, e)
 			check(t, int(w)+counter.Total(m.Waiting(), at), taken[at-20], "pulses", at, i)
 		}
 	}
-	check(t, restarts > 50, true, "whether there were enough restarts", restarts)
+	check(t, byHand > 50 && byParity > 20, true, "whether there were enough restarts", byHand, byParity)
 }
